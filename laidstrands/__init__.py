@@ -1,0 +1,1 @@
+"""Laid to strands: wire runs off bobbins, and its joints come to lie in a strand."""
