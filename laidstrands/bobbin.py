@@ -18,6 +18,19 @@ class Bobbin:
         """Where the joints come to lie that remain once so many metres are cut off."""
         return [self.place(laid, at - metres) for at in self.joints if at >= metres]
 
+    def places_within(self, laid, metres):
+        """Where the joints come to lie that are in the first so many metres, as they lie."""
+        return [self.place(laid, at) for at in self.joints if at < metres]
+
+    def wire_for(self, metres):
+        """How much wire so many metres of strand take, rounded up."""
+        return (metres * self.lay + METRE - 1) // METRE
+
+    def lasts_for(self):
+        """The most strand for which what is left is enough."""
+        # Rounded up it takes no more than what is left just where it takes no more unrounded.
+        return self.left * METRE // self.lay
+
     def add_joint(self, at):
         self.joints = sorted(self.joints + [at])
 

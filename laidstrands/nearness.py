@@ -13,14 +13,15 @@ def apart(places, others, gap):
     return True
 
 
+def steps(places):
+    """How far each place lies from the one next to it; the least of these is how far the nearest two lie apart."""
+    rising = sorted(places)
+    return [rising[k] - rising[k - 1] for k in range(1, len(rising))]
+
+
 def apart_within(places, gap):
     """True if no two of the list are less than gap apart."""
-    rising = sorted(places)
-    # In a rising list the nearest two are neighbours, so no others need a look.
-    for k in range(1, len(rising)):
-        if rising[k] - rising[k - 1] < gap:
-            return False
-    return True
+    return min(steps(places), default=gap) >= gap
 
 
 def fine_alone(group, passed, gap):
@@ -44,5 +45,5 @@ def bad_bobbins(groups, passed, gap):
 
 
 def all_fine(groups, passed, gap):
-    # Two places that are too near are never both of joints that came by, so some bobbin is bad.
+    # No run is laid but where all is fine, so of two that are too near one will lie, and its bobbin is bad.
     return len(bad_bobbins(groups, passed, gap)) == 0

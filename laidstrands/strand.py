@@ -1,7 +1,7 @@
 """The calls on a strand, and the answers to them."""
 
 from laidstrands.bobbin import Bobbin
-from laidstrands.nearness import all_fine, bad_bobbins
+from laidstrands.nearness import all_fine, bad_bobbins, steps
 from laidstrands.ways import least_way, options_of
 
 NO_SUCH_BOBBIN = -2
@@ -11,20 +11,22 @@ THERE_ALREADY = -17
 OUT_OF_BOUNDS = -22
 FULL = -28
 NO_WAY = -33
+NOT_FINE = -33
+TOO_FEW_JOINTS = -33
 
 MOST_GAP = 10000
 LEAST_LAY = 1000
 MOST_LAY = 2000
 MOST_LEFT = 100000
+MOST_RUN = 100000
 MOST_BOBBINS = 4
 MOST_JOINTS = 4
 
 BEGIN = 0
-# How many numbers stand behind each call's own; calls that have no answer yet are told too,
-# since ahead of a begin they are answered like all others.
+# How many numbers stand behind each call's own.
 ARGUMENTS = (1, 2, 2, 2, 2, 2, 0, 0, 0, 0, 0, 1, 1, 0, 1, 0, 0, 2, 1, 0)
-# The calls whose first number is a bobbin: joint, join, could, cut.
-OF_A_BOBBIN = (2, 3, 4, 5)
+# The calls whose first number is a bobbin: joint, join, could, cut, places, wire, look.
+OF_A_BOBBIN = (2, 3, 4, 5, 14, 17, 18)
 
 
 class Strand:
@@ -53,6 +55,18 @@ class Strand:
     def cut_bobbin(self, b, metres):
         self.bobbins[b].shorten(metres)
         self.cut_off += metres
+
+    def lasts_for(self):
+        """The most strand for which the wire of all bobbins is enough."""
+        return min([bobbin.lasts_for() for bobbin in self.bobbins], default=0)
+
+    def lay_strand(self, metres):
+        for bobbin in self.bobbins:
+            taken = bobbin.wire_for(metres)
+            self.passed.extend(bobbin.places_within(self.laid, taken))
+            bobbin.shorten(taken)
+        # Only now: what came by has the place that it had ahead of the run.
+        self.laid += metres
 
 
 def call_begin(strand, numbers):
@@ -148,6 +162,76 @@ def call_bad(strand, numbers):
     return [len(bad)] + bad
 
 
+def call_nearest(strand, numbers):
+    places = list(strand.passed)
+    for group in strand.groups():
+        places.extend(group)
+    if len(places) < 2:
+        return [TOO_FEW_JOINTS]
+    return [min(steps(places))]
+
+
+def refusal_of_run(strand, metres):
+    """What a run of so many metres is refused with; None if it isn't refused."""
+    if metres < 1 or metres > MOST_RUN:
+        return OUT_OF_BOUNDS
+    # Without bobbins the wire lasts for no strand at all, so that they are missed here too.
+    if metres > strand.lasts_for():
+        return TOO_LITTLE_LEFT
+    if not strand.is_fine(strand.groups()):
+        return NOT_FINE
+    return None
+
+
+def call_run(strand, numbers):
+    refusal = refusal_of_run(strand, numbers[0])
+    if refusal is not None:
+        return [refusal]
+    strand.lay_strand(numbers[0])
+    return [strand.laid]
+
+
+def call_may(strand, numbers):
+    refusal = refusal_of_run(strand, numbers[0])
+    if refusal == OUT_OF_BOUNDS:
+        return [OUT_OF_BOUNDS]
+    return [1 if refusal is None else 0]
+
+
+def call_lasts(strand, numbers):
+    return [strand.lasts_for()]
+
+
+def call_places(strand, numbers):
+    group = strand.groups()[numbers[0]]
+    return [len(group)] + group
+
+
+def call_next(strand, numbers):
+    firsts = [[group[0], b] for b, group in enumerate(strand.groups()) if len(group) > 0]
+    # Of like places the lesser bobbin makes the lesser list.
+    return min(firsts, default=[TOO_FEW_JOINTS])
+
+
+def call_gone(strand, numbers):
+    return [len(strand.passed)] + strand.passed
+
+
+def call_wire(strand, numbers):
+    if numbers[1] > MOST_RUN:
+        return [OUT_OF_BOUNDS]
+    return [strand.bobbins[numbers[0]].wire_for(numbers[1])]
+
+
+def call_look(strand, numbers):
+    bobbin = strand.bobbins[numbers[0]]
+    return [bobbin.left, bobbin.lay] + bobbin.joints
+
+
+def call_sums(strand, numbers):
+    return [strand.laid, strand.gap, len(strand.bobbins), strand.cut_off, len(strand.passed)]
+
+
 HANDLERS = (
     call_begin,
     call_bobbin,
@@ -159,6 +243,16 @@ HANDLERS = (
     call_cutleast,
     call_fine,
     call_bad,
+    call_nearest,
+    call_run,
+    call_may,
+    call_lasts,
+    call_places,
+    call_next,
+    call_gone,
+    call_wire,
+    call_look,
+    call_sums,
 )
 
 
@@ -167,8 +261,6 @@ def answer_call(strand, call, numbers):
         return [NOT_BEGUN]
     if call in OF_A_BOBBIN and numbers[0] >= len(strand.bobbins):
         return [NO_SUCH_BOBBIN]
-    if call >= len(HANDLERS):
-        raise NotImplementedError("this call has no answer yet")
     return HANDLERS[call](strand, numbers)
 
 

@@ -3,18 +3,7 @@
 import itertools
 import unittest
 
-from laidstrands.strand import call_cutleast, call_fine, call_least
-from tests.lines import ask, last
-from tests.test_fine import strand_of
-
-
-def line(gap, *wire):
-    """Calls that make bobbins told as (lay, left, joint, joint, ..)."""
-    calls = [("begin", gap)]
-    for b, one in enumerate(wire):
-        calls.append(("bobbin", one[0], one[1]))
-        calls.extend([("joint", b, at) for at in one[2:]])
-    return calls
+from tests.lines import ask, last, line
 
 
 def fine_behind(calls, way):
@@ -126,18 +115,29 @@ class CutLeast(unittest.TestCase):
 
 
 class BesideWhatCameBy(unittest.TestCase):
+    # At 8 a joint came by, and 10 metres are laid; joints that are put in behind that lie at 10 and more.
+    RAN = line(5, (1000, 90, 8), (1000, 90)) + [("run", 10)]
+
     def test_a_joint_near_one_that_came_by(self):
         # Nearer to the end it only lies nearer to what came by, so it must go.
-        strand = strand_of(5, 10, [8], (1000, 2, 40), (1000, 30))
-        self.assertEqual(call_least(strand, []), [3, 3, 0])
-        self.assertEqual(call_cutleast(strand, []), [3])
-        self.assertEqual(call_fine(strand, []), [1])
+        self.assertEqual(ask(*self.RAN, ("joint", 0, 2), ("joint", 0, 40), ("joint", 1, 30), ("fine",), ("least",),
+                             ("cutleast",), ("fine",), ("least",), ("places", 0), ("sums",), ("look", 0))[5:],
+                         [12, 50, 40, 0, [3, 3, 0], 3, 1, [0, 0, 0], [1, 47], [10, 5, 2, 3, 1], [77, 1000, 37]])
+
+    def test_just_gap_from_one_that_came_by(self):
+        self.assertEqual(last(*self.RAN, ("joint", 1, 3), ("least",)), [0, 0, 0])
+        self.assertEqual(last(*self.RAN, ("joint", 1, 2), ("least",)), [3, 0, 3])
+
+    def test_what_is_cut_must_not_bring_another_near_to_it(self):
+        # Cut by 5, bobbin 1's joint would be far enough from bobbin 0's, but 3 from the one that came by.
+        calls = self.RAN + [("joint", 0, 6), ("joint", 1, 6)]
+        self.assertEqual(ask(*calls, ("least",), ("cutleast",), ("look", 0), ("look", 1), ("fine",))[7:],
+                         [[7, 0, 7], 7, [80, 1000, 6], [73, 1000], 1])
 
     def test_no_way(self):
-        self.assertEqual(call_least(strand_of(30, 10, [9], (1000, 20)), []), [-33])
-
-    def test_two_that_came_by_are_not_looked_at(self):
-        self.assertEqual(call_least(strand_of(5, 100, [8, 8], (1000, 2)), []), [0, 0])
+        calls = line(30, (1000, 90, 9)) + [("run", 10), ("joint", 0, 20)]
+        self.assertEqual(ask(*calls, ("least",), ("cutleast",), ("sums",), ("look", 0))[5:],
+                         [-33, -33, [10, 30, 1, 0, 1], [80, 1000, 20]])
 
 
 if __name__ == "__main__":

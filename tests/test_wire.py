@@ -3,8 +3,8 @@
 import unittest
 
 from laidstrands.bobbin import Bobbin
-from laidstrands.strand import Strand, answer_call, answers, call_cut, call_cutleast
-from tests.lines import TOP, ask, last, parted
+from laidstrands.strand import answers
+from tests.lines import TOP, ask, last, line, parted
 
 BEGUN = ("begin", 5)
 FOUR_JOINTS = (BEGUN, ("bobbin", 1000, 100), ("joint", 0, 10), ("joint", 0, 20), ("joint", 0, 30), ("joint", 0, 40))
@@ -38,13 +38,18 @@ class Begin(unittest.TestCase):
         self.assertEqual(ask(*FOUR_JOINTS, ("begin", TOP), ("cut", 0, 0), ("joint", 0, 20), ("joint", 0, 21),
                              ("fine",))[6:], [-22, 100, -17, -28, 1])
 
-    def test_it_clears_what_is_laid_passed_and_cut(self):
-        strand = Strand()
-        strand.laid = 3
-        strand.passed = [1]
-        strand.cut_off = 2
-        strand.restart(4)
-        self.assertEqual((strand.gap, strand.bobbins, strand.laid, strand.passed, strand.cut_off), (4, [], 0, [], 0))
+    def test_again_behind_runs_and_cuts(self):
+        calls = line(5, (1000, 100, 3, 20), (1500, 100)) + [("cut", 1, 4), ("run", 7), ("run", 2)]
+        self.assertEqual(ask(*calls, ("sums",), ("gone",), ("begin", 6), ("sums",), ("gone",), ("lasts",), ("next",),
+                             ("nearest",), ("look", 0), ("bobbin", 1000, 50), ("joint", 0, 4), ("fine",), ("run", 5),
+                             ("gone",), ("sums",))[8:],
+                         [[9, 5, 2, 4, 1], [1, 3], 0, [0, 6, 0, 0, 0], 0, 0, -33, -33, -2, 0, 4, 1, 5, [1, 4],
+                          [5, 6, 1, 0, 1]])
+
+    def test_refused_behind_runs_and_cuts_it_changes_nothing(self):
+        calls = line(5, (1000, 100, 3, 20), (1500, 100)) + [("cut", 1, 4), ("run", 7)]
+        self.assertEqual(ask(*calls, ("begin", 10001), ("sums",), ("gone",), ("look", 0), ("look", 1))[7:],
+                         [-22, [7, 5, 2, 4, 1], [1, 3], [93, 1000, 13], [85, 1500]])
 
 
 class Bobbins(unittest.TestCase):
@@ -125,12 +130,12 @@ class Joint(unittest.TestCase):
                          [-17, -22, 1, 9, 0, 1, 3, -28])
 
     def test_what_is_laid_comes_ahead_of_it(self):
-        strand = Strand()
-        strand.restart(0)
-        strand.laid = 30
-        strand.begun = True
-        answer_call(strand, 1, [1500, 10])
-        self.assertEqual(answer_call(strand, 2, [0, 8]), [35])
+        self.assertEqual(ask(*line(0, (1500, 100)), ("run", 30), ("joint", 0, 8), ("joint", 0, 55), ("joint", 0, 54),
+                             ("look", 0))[2:], [30, 35, -22, 66, [55, 1500, 8, 54]])
+
+    def test_there_is_room_for_what_came_by(self):
+        self.assertEqual(ask(*FOUR_JOINTS, ("run", 21), ("joint", 0, 30), ("joint", 0, 31), ("joint", 0, 32),
+                             ("look", 0))[6:], [21, 51, 52, -28, [79, 1000, 9, 19, 30, 31]])
 
 
 class Join(unittest.TestCase):
@@ -166,6 +171,16 @@ class Join(unittest.TestCase):
     def test_only_that_bobbin(self):
         self.assertEqual(ask(BEGUN, ("bobbin", 1000, 10), ("bobbin", 1000, 20), ("join", 1, 5), ("cut", 0, 0),
                              ("cut", 1, 0), ("joint", 1, 20), ("joint", 0, 9))[3:], [25, 10, 25, -17, 9])
+
+
+    def test_one_that_ran_empty_gets_no_joint(self):
+        self.assertEqual(ask(*line(5, (1000, 10, 9), (1000, 11)), ("run", 10), ("join", 0, 7), ("join", 1, 7),
+                             ("look", 0), ("look", 1))[4:], [10, 7, 8, [7, 1000], [8, 1000, 1]])
+
+    def test_there_is_room_for_what_came_by(self):
+        self.assertEqual(ask(*FOUR_JOINTS, ("join", 0, 5), ("run", 11), ("join", 0, 5), ("join", 0, 5), ("look", 0),
+                             ("places", 0))[6:],
+                         [-28, 11, 94, -28, [94, 1000, 9, 19, 29, 89], [4, 20, 30, 40, 100]])
 
 
 class Could(unittest.TestCase):
@@ -236,61 +251,63 @@ class Cut(unittest.TestCase):
                              ("cut", 1, 2), ("joint", 0, 3), ("joint", 1, 1), ("cut", 0, 0))[5:], [18, -17, -17, 10])
 
     def test_what_is_cut_off_is_counted(self):
-        strand = Strand()
-        strand.restart(3)
-        strand.bobbins = [Bobbin(1000, 50), Bobbin(1000, 50)]
-        strand.bobbins[0].add_joint(9)
-        strand.bobbins[1].add_joint(9)
-        self.assertEqual(call_cut(strand, [0, 51]), [-12])
-        self.assertEqual(strand.cut_off, 0)
-        call_cut(strand, [1, 4])
-        call_cut(strand, [0, 4])
-        self.assertEqual(strand.cut_off, 8)
-        self.assertEqual(call_cutleast(strand, []), [3])
-        self.assertEqual(strand.cut_off, 11)
+        self.assertEqual(ask(*line(3, (1000, 50, 9), (1000, 50, 9)), ("cut", 0, 51), ("sums",), ("cut", 1, 4),
+                             ("cut", 0, 4), ("sums",), ("cutleast",), ("sums",), ("cutleast",), ("sums",))[5:],
+                         [-12, [0, 3, 2, 0, 0], 46, 46, [0, 3, 2, 8, 0], 3, [0, 3, 2, 11, 0], 0, [0, 3, 2, 11, 0]])
 
-
-class WholeRange(unittest.TestCase):
-    def test_each_argument_at_its_top(self):
-        self.assertEqual(ask(BEGUN, ("bobbin", 1000, 10), ("begin", TOP), ("bobbin", TOP, TOP), ("bobbin", TOP, 1),
-                             ("bobbin", 1000, TOP), ("joint", 0, TOP), ("join", 0, TOP), ("could", 0, TOP),
-                             ("cut", 0, TOP), ("joint", TOP, TOP), ("join", TOP, TOP), ("could", TOP, TOP),
-                             ("cut", TOP, TOP), ("cut", 0, 0))[2:],
-                         [-22, -22, -22, -22, -22, -22, -22, -12, -2, -2, -2, -2, 10])
+    def test_what_is_cut_off_is_wire(self):
+        # Neither the strand's metres nor what a run takes is counted.
+        self.assertEqual(ask(*line(3, (2000, 50, 9)), ("cut", 0, 6), ("run", 5), ("sums",), ("look", 0))[3:],
+                         [44, 5, [5, 3, 1, 6, 1], [34, 2000]])
 
 
 class Interface(unittest.TestCase):
     def test_how_answers_are_written(self):
-        self.assertEqual(answers([0, 5, 1, 1000, 100, 1, 1500, 100, 2, 0, 10, 2, 1, 15, 8, 9, 6, 7, 8, 9, 6, 2, 0, 200]),
+        self.assertEqual(answers([0, 5, 1, 1000, 100, 1, 1500, 100, 2, 0, 10, 2, 1, 15, 8, 9, 6, 7, 8, 9, 6,
+                                  2, 0, 200]),
                          [1, 0, 1, 0, 1, 1, 1, 10, 1, 10, 1, 0, 3, 2, 0, 1, 3, 5, 5, 0, 1, 5, 1, 1, 1, 0,
                           3, 0, 0, 0, 1, -22])
+        self.assertEqual(answers([0, 5, 1, 1000, 100, 1, 1500, 100, 2, 0, 10, 2, 1, 30, 10, 12, 11, 11, 11, 13, 14, 1,
+                                  15, 16, 17, 1, 3, 18, 1, 19, 14, 0, 18, 0, 11, 0, 17, 0, 100001]),
+                         [1, 0, 1, 0, 1, 1, 1, 10, 1, 20, 1, 10, 1, 1, 1, 11, 1, 55, 2, 1, 19, 2, 19, 1, 2, 1, 10, 1, 5,
+                          3, 83, 1500, 13, 5, 11, 5, 2, 0, 1, 1, 0, 2, 89, 1000, 1, -22, 1, -22])
+
+    def test_each_argument_at_its_top(self):
+        self.assertEqual(ask(BEGUN, ("bobbin", 1000, 10), ("begin", TOP), ("bobbin", TOP, TOP), ("bobbin", TOP, 1),
+                             ("bobbin", 1000, TOP), ("joint", 0, TOP), ("join", 0, TOP), ("could", 0, TOP),
+                             ("cut", 0, TOP), ("joint", TOP, TOP), ("join", TOP, TOP), ("could", TOP, TOP),
+                             ("cut", TOP, TOP), ("run", TOP), ("may", TOP), ("places", TOP), ("wire", 0, TOP),
+                             ("wire", TOP, TOP), ("look", TOP), ("look", 0), ("sums",))[2:],
+                         [-22, -22, -22, -22, -22, -22, -22, -12, -2, -2, -2, -2, -22, -22, -2, -22, -2, -2,
+                          [10, 1000], [0, 5, 1, 0, 0]])
 
     def test_the_list_handed_in_stays(self):
-        calls = [0, 5, 1, 1000, 100, 2, 0, 10, 2, 0, 11, 3, 0, 9, 5, 0, 1, 4, 0, 3, 6, 7, 8, 9]
+        calls = [0, 5, 1, 1000, 100, 2, 0, 10, 2, 0, 11, 3, 0, 9, 5, 0, 1, 4, 0, 3, 6, 7, 8, 9,
+                 10, 11, 15, 12, 3, 13, 14, 0, 15, 16, 17, 0, 4, 18, 0, 19, 11, 0]
         before = list(calls)
         answers(calls)
         self.assertEqual(calls, before)
 
     def test_nothing_is_kept(self):
-        calls = [0, 5, 1, 1000, 100, 2, 0, 10, 2, 0, 11, 6, 7, 8]
+        calls = [0, 5, 1, 1000, 100, 2, 0, 10, 2, 0, 11, 6, 7, 8, 11, 9, 16, 18, 0, 19]
         first = answers(calls)
         first.append(7)
-        self.assertEqual(answers([8]), [1, -11])
+        for call in ([8], [16], [18, 0], [19]):
+            self.assertEqual(answers(call), [1, -11])
+        self.assertEqual(answers([0, 5, 16, 19]), [1, 0, 1, 0, 5, 0, 5, 0, 0, 0])
         self.assertEqual(answers(calls), first[:-1])
 
     def test_only_whole_numbers_come_back(self):
-        given = answers([0, 5, 1, 1000, 100, 8, 9, 4, 0, 3, 6, 7, 2, 0, 3, 2, 0, 4, 8, 9, 4, 0, 3])
+        given = answers([0, 5, 1, 1000, 100, 8, 9, 4, 0, 3, 6, 7, 2, 0, 3, 2, 0, 4, 8, 9, 4, 0, 3, 10, 12, 1, 11, 1, 7,
+                         12, 1, 11, 20, 13, 14, 0, 15, 16, 17, 0, 3, 18, 0, 19])
         self.assertIs(type(given), list)
         self.assertEqual({type(number) for number in given}, {int})
-
-    def test_calls_that_are_not_written_yet(self):
-        for call in ([10], [11, 1], [12, 1], [13], [14, 0], [15], [16], [17, 0, 0], [18, 0], [19]):
-            with self.assertRaises(NotImplementedError):
-                answers([0, 5, 1, 1000, 9] + call)
 
     def test_eighty_calls(self):
         given = answers([0, 5] + [8] * 79)
         self.assertEqual(parted(given), [[0]] + [[1]] * 79)
+        given = answers([0, 5, 1, 1000, 100] + [11, 1] * 78)
+        self.assertEqual(parted(given), [[0], [0]] + [[k] for k in range(1, 79)])
 
 
 if __name__ == "__main__":
